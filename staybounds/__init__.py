@@ -1,0 +1,1 @@
+"""Staybounds: rules of staying, judged for all calendars."""

@@ -1,0 +1,174 @@
+"""The files of the package: sizes (L10), characters (L14), names and imports (L2, L15, L16)."""
+
+import ast
+import builtins
+import inspect
+import os
+import re
+import unittest
+import warnings
+from importlib import import_module
+
+import staybounds
+
+FOLDER = os.path.dirname(os.path.abspath(staybounds.__file__))
+
+INTERFACE = {
+    "books": ["is_limit(candidate)", "is_book(candidate)", "is_calendar(book, candidate)",
+              "days_in(book, calendar, zones)", "stays(book, calendar, zones)"],
+    "judging": ["is_allowed(book, calendar)", "first_broken(book, calendar)", "past_of(book, calendar)",
+                "next_days(book, calendar)"],
+}
+
+LIBRARY = {
+    "heapq": ["heappush", "heappop", "heapify", "heapreplace", "heappushpop"],
+    "math": ["gcd", "lcm", "isqrt", "comb", "perm", "factorial"],
+    "itertools": ["product", "combinations", "permutations", "chain", "accumulate", "pairwise", "islice",
+                  "zip_longest"],
+    "collections": ["defaultdict", "deque"],
+}
+
+
+def read(name):
+    with open(os.path.join(FOLDER, name), "rb") as file:
+        return file.read()
+
+
+NAMES = sorted(name for name in os.listdir(FOLDER) if name != "__pycache__")
+SOURCES = {name: read(name) for name in NAMES}
+TREES = {name: ast.parse(source) for name, source in SOURCES.items()}
+
+
+def defined(tree):
+    """The names that a file binds at module level by itself."""
+    names = []
+    for node in tree.body:
+        if isinstance(node, (ast.FunctionDef, ast.ClassDef)):
+            names.append(node.name)
+        elif isinstance(node, ast.Assign):
+            names += [target.id for target in node.targets]
+    return names
+
+
+def imports(tree):
+    return [node for node in ast.walk(tree) if isinstance(node, (ast.Import, ast.ImportFrom))]
+
+
+def own_imports(tree):
+    """The files of the package that a file imports from."""
+    return [node.module.split(".")[1] + ".py" for node in imports(tree) if node.module.startswith("staybounds.")]
+
+
+def bound_names(tree):
+    """All names that functions, classes, parameters and assignments bind."""
+    for node in ast.walk(tree):
+        if isinstance(node, ast.Name) and isinstance(node.ctx, ast.Store):
+            yield node.id
+        elif isinstance(node, ast.arg):
+            yield node.arg
+        elif isinstance(node, (ast.FunctionDef, ast.ClassDef)):
+            yield node.name
+
+
+class FilesTest(unittest.TestCase):
+    def test_nothing_but_python_files(self):
+        self.assertIn("__init__.py", NAMES)
+        for name in NAMES:
+            self.assertRegex(name, r"\A[a-z0-9_]+\.py\Z")
+        self.assertLessEqual(len(NAMES), 100)
+
+    def test_characters(self):
+        for name, source in SOURCES.items():
+            wrong = [byte for byte in source if byte != 10 and not 32 <= byte <= 126]
+            self.assertEqual(wrong, [], name)
+
+    def test_sizes_of_files_and_lines(self):
+        for name, source in SOURCES.items():
+            lines = source.decode("ascii").split("\n")
+            self.assertLessEqual(len(lines), 399 + 1, name)
+            self.assertLessEqual(max(len(line) for line in lines), 120, name)
+
+    def test_sizes_of_functions(self):
+        for name, tree in TREES.items():
+            for node in ast.walk(tree):
+                if isinstance(node, (ast.FunctionDef, ast.AsyncFunctionDef, ast.Lambda)):
+                    self.assertLessEqual(node.end_lineno - node.lineno + 1, 40, (name, node.lineno))
+
+    def test_no_warnings(self):
+        for name, source in SOURCES.items():
+            with warnings.catch_warnings():
+                warnings.simplefilter("error")
+                compile(source, name, "exec")
+
+
+class NamesTest(unittest.TestCase):
+    def test_no_name_of_a_builtin(self):
+        for name, tree in TREES.items():
+            for bound in bound_names(tree):
+                self.assertFalse(hasattr(builtins, bound), (name, bound))
+
+    def test_each_name_is_bound_once_at_module_level(self):
+        for name, tree in TREES.items():
+            bound = defined(tree) + [alias.name for node in imports(tree) for alias in node.names]
+            self.assertEqual(len(bound), len(set(bound)), name)
+
+    def test_nothing_but_plain_names_at_module_level(self):
+        for name, tree in TREES.items():
+            for at, node in enumerate(tree.body):
+                if isinstance(node, ast.Expr):
+                    self.assertEqual(at, 0, name)
+                    self.assertIsInstance(node.value.value, str)
+                else:
+                    self.assertIsInstance(node, (ast.ImportFrom, ast.FunctionDef, ast.ClassDef, ast.Assign), name)
+
+    def test_no_error_of_pythons_own_is_caught(self):
+        allowed = defined(TREES["errors.py"]) + ["KeyError", "ZeroDivisionError"]
+        for name, tree in TREES.items():
+            for node in ast.walk(tree):
+                if isinstance(node, ast.ExceptHandler):
+                    caught = node.type.elts if isinstance(node.type, ast.Tuple) else [node.type]
+                    for error in caught:
+                        self.assertIn(error.id, allowed, name)
+
+    def test_imports(self):
+        for name, tree in TREES.items():
+            for node in imports(tree):
+                self.assertIsInstance(node, ast.ImportFrom, name)
+                self.assertEqual(node.level, 0, name)
+                if node.module in LIBRARY:
+                    names = LIBRARY[node.module]
+                else:
+                    self.assertTrue(node.module.startswith("staybounds."), name)
+                    names = defined(TREES[node.module.split(".")[1] + ".py"])
+                for alias in node.names:
+                    self.assertIsNone(alias.asname, name)
+                    self.assertIn(alias.name, names, name)
+
+    def test_imports_are_used(self):
+        for name, tree in TREES.items():
+            used = [node.id for node in ast.walk(tree) if isinstance(node, ast.Name)]
+            for node in imports(tree):
+                for alias in node.names:
+                    self.assertIn(alias.name, used, name)
+
+    def test_no_two_files_import_from_each_other(self):
+        reached = {name: set(own_imports(tree)) for name, tree in TREES.items()}
+        for _ in NAMES:
+            for name in NAMES:
+                for other in sorted(reached[name]):
+                    reached[name] |= reached[other]
+        for name in NAMES:
+            self.assertNotIn(name, reached[name])
+
+
+class InterfaceTest(unittest.TestCase):
+    def test_each_function_stands_in_its_file_with_its_arguments(self):
+        for name, rows in INTERFACE.items():
+            found = import_module("staybounds." + name)
+            nodes = {node.name: node for node in TREES[name + ".py"].body if isinstance(node, ast.FunctionDef)}
+            for row in rows:
+                function, arguments = re.fullmatch(r"(\w+)\((.*)\)", row).groups()
+                self.assertIn(function, nodes)
+                wanted = arguments.split(", ")
+                self.assertEqual([arg.arg for arg in nodes[function].args.args], wanted)
+                self.assertEqual(list(inspect.signature(getattr(found, function)).parameters), wanted)
