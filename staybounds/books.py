@@ -23,7 +23,7 @@ def is_limit(candidate):
 
 def is_book(candidate):
     """Return whether candidate is a book of rules."""
-    if not isinstance(candidate, tuple) or len(candidate) != 2:
+    if not is_pair(candidate):
         return False
     zones, limits = candidate
     if zones not in ("a", "ab") or not isinstance(limits, tuple):
@@ -36,10 +36,7 @@ def is_book(candidate):
 def is_calendar(book, candidate):
     """Return whether candidate is a calendar of a book."""
     check_book(book)
-    if not isinstance(candidate, str) or len(candidate) > MOST_DAYS:
-        return False
-    letters = day_letters(book)
-    return all([day in letters for day in candidate])
+    return is_text_of(day_letters(book), MOST_DAYS, candidate)
 
 
 def days_in(book, calendar, zones):
@@ -74,13 +71,38 @@ def check_calendar(book, calendar):
 
 def check_zones(book, zones):
     """Raise InvalidZones if zones are not zones of a limit of the book."""
-    if zones not in _limit_zones(book[0]):
+    if not are_zones(book, zones):
         raise InvalidZones("not zones of the book")
+
+
+def are_zones(book, candidate):
+    """Return whether candidate is zones that a limit of the book can have."""
+    return candidate in _limit_zones(book[0])
 
 
 def day_letters(book):
     """Return the letters that a day of a book can have, in ascending order."""
     return AWAY + book[0]
+
+
+def is_text_of(letters, most, candidate):
+    """Return whether candidate is a string of at most so many of these letters."""
+    if not isinstance(candidate, str) or len(candidate) > most:
+        return False
+    return all([letter in letters for letter in candidate])
+
+
+def is_pair(candidate):
+    """Return whether candidate is a tuple of two, of any kinds."""
+    return isinstance(candidate, tuple) and len(candidate) == 2
+
+
+def is_between(candidate, low, high):
+    """Return whether candidate is an integer from low to high."""
+    # Python counts True and False among the integers, the document does not.
+    if isinstance(candidate, bool) or not isinstance(candidate, int):
+        return False
+    return low <= candidate <= high
 
 
 def _limit_zones(zones):
@@ -102,12 +124,4 @@ def _is_limit_within(candidate, zones):
     numbers = candidate[2:]
     if candidate[1] not in _limit_zones(zones) or len(numbers) != len(bounds):
         return False
-    return all([_is_between(number, low, high) for number, (low, high) in zip(numbers, bounds)])
-
-
-def _is_between(candidate, low, high):
-    """Return whether candidate is an integer from low to high."""
-    # Python counts True and False among the integers, the document does not.
-    if isinstance(candidate, bool) or not isinstance(candidate, int):
-        return False
-    return low <= candidate <= high
+    return all([is_between(number, low, high) for number, (low, high) in zip(numbers, bounds)])

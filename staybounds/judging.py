@@ -1,9 +1,12 @@
 """Which calendars a book allows, and where others break a limit."""
 
-from staybounds.books import AWAY, check_calendar, day_letters
+from staybounds.books import check_calendar, day_letters
 from staybounds.errors import Broken
 
 PAST_DAYS = 5
+
+# The past of the empty calendar: all days before a calendar are away.
+FIRST_PAST = "....."
 
 
 def is_allowed(book, calendar):
@@ -14,7 +17,7 @@ def is_allowed(book, calendar):
 def first_broken(book, calendar):
     """Return the tuple (day, number) of what is broken first, or None."""
     check_calendar(book, calendar)
-    lived = AWAY * PAST_DAYS + calendar
+    lived = FIRST_PAST + calendar
     for day in range(len(calendar)):
         number = limit_broken(book, lived[day:day + PAST_DAYS], calendar[day])
         if number is not None:
@@ -25,14 +28,23 @@ def first_broken(book, calendar):
 def past_of(book, calendar):
     """Return the past of a calendar."""
     check_calendar(book, calendar)
-    return (AWAY * PAST_DAYS + calendar)[-PAST_DAYS:]
+    return (FIRST_PAST + calendar)[-PAST_DAYS:]
 
 
 def next_days(book, calendar):
     """Return the ascending list of the days that can follow an allowed calendar."""
+    check_allowed(book, calendar)
+    return days_behind(book, past_of(book, calendar))
+
+
+def check_allowed(book, calendar):
+    """Raise InvalidBook, InvalidCalendar, or Broken if the calendar is not allowed."""
     if not is_allowed(book, calendar):
         raise Broken("the calendar breaks a limit")
-    past = past_of(book, calendar)
+
+
+def days_behind(book, past):
+    """Return the ascending list of the days that break no limit behind a past."""
     return [day for day in day_letters(book) if limit_broken(book, past, day) is None]
 
 

@@ -1,38 +1,70 @@
-"""0.3: new lists, equal answers, arguments left as they were, and no errors of Python's own."""
+"""0.3: new lists, equal answers, arguments left as they were, the order of errors, none of Python's own."""
 
 import copy
 import unittest
+from itertools import product
 
-from staybounds import books, judging
+from staybounds import books, shares, wishes
 from staybounds.errors import StayError
+from tests.arguments import LISTS, SPECS, wanted_error
+from tests.forms import spoiled
 from tests.plainly import with_kinds
 from tests.samples import ANYTHING, SHORT, TWO
 
-LISTS = [
-    (books.days_in, (TWO, "ab.a", "ab")),
-    (books.days_in, (TWO, "...", "ab")),
-    (books.stays, (TWO, "ab.a", "ab")),
-    (books.stays, (TWO, "", "a")),
-    (judging.next_days, (TWO, "b")),
-    (judging.next_days, (SHORT, "aa")),
-]
-
-# Each function with the number of its arguments.
-FUNCTIONS = [
-    (books.is_limit, 1), (books.is_book, 1), (books.is_calendar, 2), (books.days_in, 3), (books.stays, 3),
-    (judging.is_allowed, 2), (judging.first_broken, 2), (judging.past_of, 2), (judging.next_days, 2),
-]
-
-RIGHT = [SHORT, "a.a", "a"]
+# Right and wrong values for any argument, to have several wrong ones at once.
+FEW = [SHORT, TWO, ("a", ["row"]), "a.a", "aaa", "bb", "p?", (1,), (1, 2), [1], (("a", 3),), True, 0, 7, None]
 
 
 def calls():
-    """All calls that have one argument of any kind, and those that have only such a one."""
-    for function, many in FUNCTIONS:
+    """All calls with one argument that is changed, or of any kind, or with several of a few."""
+    for function, right, checks in SPECS:
+        yield function, list(right), checks
+        for at in range(len(right)):
+            for value in ANYTHING + list(spoiled(right[at])):
+                yield function, [*right[:at], value, *right[at + 1:]], checks
         for value in ANYTHING:
-            yield function, [value] * many
-            for at in range(many):
-                yield function, RIGHT[:at] + [value] + RIGHT[at + 1:many]
+            yield function, [value] * len(right), checks
+        for values in product(FEW, repeat=min(len(right), 3)):
+            yield function, [*values, *right[3:]], checks
+
+
+def outcome(function, arguments):
+    try:
+        return function(*arguments), None
+    except StayError as error:
+        return None, type(error)
+
+
+class AnyArgumentsTest(unittest.TestCase):
+    def test_errors_in_their_order_and_none_of_pythons_own(self):
+        for function, arguments, checks in calls():
+            before = copy.deepcopy(arguments)
+            wanted = wanted_error(checks, arguments)
+            try:
+                answer, error = outcome(function, arguments)
+                again = outcome(function, before)
+            except Exception as wrong:
+                self.fail("%s%r: %r" % (function.__name__, before, wrong))
+            if error is not wanted and not (wanted is None and error.__name__ == "NoneAllowed"):
+                self.fail("%s%r: wanted %r, found %r" % (function.__name__, before, wanted, error))
+            if (answer, error) != again or with_kinds(arguments) != with_kinds(before):
+                self.fail("%s%r: another answer, or other arguments" % (function.__name__, before))
+            if error is None and function.__name__.startswith(("is_", "are_")):
+                self.assertIs(type(answer), bool)
+
+    def test_true_does_not_pass_for_a_number_it_equals(self):
+        # The tuples are equal in Python, the answers must be different.
+        one_day = ("a", (("row", "a", 0),))
+        for number, boolean in [(1, True), (0, False)]:
+            for _ in range(2):
+                self.assertIs(books.is_limit(("row", "a", number)), True)
+                self.assertIs(books.is_limit(("row", "a", boolean)), False)
+                self.assertIs(books.is_book(("a", (("row", "a", number),))), True)
+                self.assertIs(books.is_book(("a", (("row", "a", boolean),))), False)
+                self.assertIs(shares.is_ceiling(one_day, (1,), (1, 1), [(".....", number)]), True)
+                self.assertIs(shares.is_ceiling(one_day, (1,), (1, 1), [(".....", boolean)]), False)
+        self.assertIs(wishes.are_wishes(SHORT, (("a", 1),)), True)
+        self.assertIs(wishes.are_wishes(SHORT, (("a", True),)), False)
 
 
 class ListsTest(unittest.TestCase):
@@ -53,49 +85,10 @@ class ListsTest(unittest.TestCase):
             first.clear()
             self.assertEqual(function(*arguments), kept)
 
-
-class AnyArgumentsTest(unittest.TestCase):
-    def test_no_error_of_pythons_own(self):
-        for function, arguments in calls():
-            try:
-                answer = function(*arguments)
-            except StayError as error:
-                self.assertIs(type(error).__base__, StayError)
-                continue
-            if function.__name__.startswith("is_"):
-                self.assertIn(answer, (True, False))
-                self.assertIs(type(answer), bool)
-
-    def test_functions_with_one_candidate_never_raise(self):
-        for value in ANYTHING:
-            self.assertIs(type(books.is_limit(value)), bool)
-            self.assertIs(type(books.is_book(value)), bool)
-            self.assertIs(type(books.is_calendar(SHORT, value)), bool)
-
-    def test_arguments_are_not_modified(self):
-        for function, arguments in calls():
-            before = copy.deepcopy(arguments)
-            try:
-                function(*arguments)
-            except StayError:
-                pass
-            self.assertEqual(with_kinds(arguments), with_kinds(before))
-
-    def test_equal_calls_return_equal_results(self):
-        for function, arguments in calls():
-            self.assertEqual(self.outcome(function, arguments), self.outcome(function, copy.deepcopy(arguments)))
-
-    def outcome(self, function, arguments):
-        try:
-            return function(*arguments)
-        except StayError as error:
-            return type(error)
-
-    def test_true_does_not_pass_for_a_number_it_equals(self):
-        # The tuples are equal in Python, the answers must be different.
-        for number, boolean in [(1, True), (0, False)]:
-            for _ in range(2):
-                self.assertIs(books.is_limit(("row", "a", number)), True)
-                self.assertIs(books.is_limit(("row", "a", boolean)), False)
-                self.assertIs(books.is_book(("a", (("row", "a", number),))), True)
-                self.assertIs(books.is_book(("a", (("row", "a", boolean),))), False)
+    def test_a_list_that_was_passed_is_not_kept(self):
+        numbers = shares.ceiling(SHORT, (1,))
+        self.assertIs(shares.is_ceiling(SHORT, (1,), (1, 2), numbers), True)
+        kept = list(numbers)
+        numbers.pop()
+        self.assertIs(shares.is_ceiling(SHORT, (1,), (1, 2), numbers), False)
+        self.assertIs(shares.is_ceiling(SHORT, (1,), (1, 2), kept), True)

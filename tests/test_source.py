@@ -18,6 +18,22 @@ INTERFACE = {
               "days_in(book, calendar, zones)", "stays(book, calendar, zones)"],
     "judging": ["is_allowed(book, calendar)", "first_broken(book, calendar)", "past_of(book, calendar)",
                 "next_days(book, calendar)"],
+    "pasts": ["all_pasts(book)", "calendar_to(book, past)"],
+    "shares": ["is_loop(book, candidate)", "share_of(book, weights, loop)", "greatest_share(book, weights)",
+               "best_loop(book, weights)", "is_ceiling(book, weights, fraction, candidate)",
+               "ceiling(book, weights)"],
+    "alike": ["parting_calendar(one, other)", "are_alike(one, other)", "is_stricter(one, other)",
+              "idle_limits(book)"],
+    "tuning": ["equal_counts(book, number)", "nearest_counts(book, number)", "least_most(book, zones, span)",
+               "longest_stay(book, zones)"],
+    "wishes": ["are_wishes(book, candidate)", "keeps(book, calendar, days, wishes)",
+               "days_kept(book, calendar, wishes)", "longest_kept(book, calendar, wishes)",
+               "can_keep(book, calendar, wishes)", "keeping_loop(book, calendar, wishes)",
+               "keeping_share(book, calendar, wishes, weights)", "dead_day(book, calendar, wishes)"],
+    "sightings": ["is_sighting(book, candidate)", "fits(book, sighting, calendar)", "verdict(book, sighting)",
+                  "how_many(book, sighting)", "first_allowed(book, sighting)", "first_forbidden(book, sighting)"],
+    "sure": ["sure_days(book, sighting)", "least_wrong(book, sighting)", "corrected(book, sighting)",
+             "can_be_one(book, one, other)"],
 }
 
 LIBRARY = {

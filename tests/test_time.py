@@ -1,0 +1,79 @@
+"""All calls end within some seconds, also with the greatest books (of four limits with the greatest spans)."""
+
+import time
+import unittest
+
+from staybounds import alike, judging, pasts, shares, sightings, sure, tuning, wishes
+
+SECONDS = 5
+
+HEAVY = [
+    ("ab", (("most", "a", 6, 6), ("most", "b", 6, 6), ("most", "ab", 6, 6), ("starts", "ab", 5, 5))),
+    ("ab", (("most", "a", 3, 6), ("most", "b", 3, 6), ("most", "ab", 5, 6), ("starts", "ab", 2, 5))),
+    ("ab", (("most", "ab", 5, 6), ("starts", "a", 2, 5), ("starts", "b", 2, 5), ("row", "ab", 5))),
+    ("ab", (("row", "a", 5), ("row", "b", 4), ("gap", "a", 5), ("gap", "b", 5))),
+    ("ab", ()),
+]
+WISHES = [(("a", 5), ("b", 5), ("ab", 5)), (("a", 4), ("b", 3), ("ab", 2)), (("ab", 5),)]
+SIGHTINGS = ["?" * 60, "p" * 60, "?p" * 30, "ab" * 30, "a????" * 12]
+WEIGHTS = [(1, 1), (9, 8), (7, 9), (0, 1)]
+
+
+class TimeTest(unittest.TestCase):
+    def timed(self, function, *arguments):
+        begin = time.perf_counter()
+        answer = function(*arguments)
+        self.assertLess(time.perf_counter() - begin, SECONDS, (function.__name__, arguments))
+        return answer
+
+    def test_pasts_and_two_books(self):
+        for book in HEAVY:
+            for past in self.timed(pasts.all_pasts, book)[::40]:
+                self.timed(pasts.calendar_to, book, past)
+            self.timed(alike.idle_limits, book)
+            for other in HEAVY:
+                for function in (alike.parting_calendar, alike.are_alike, alike.is_stricter):
+                    self.timed(function, book, other)
+
+    def test_shares(self):
+        for book in HEAVY:
+            for weights in WEIGHTS:
+                share = self.timed(shares.greatest_share, book, weights)
+                numbers = self.timed(shares.ceiling, book, weights)
+                self.assertTrue(self.timed(shares.is_ceiling, book, weights, share, numbers))
+                self.timed(shares.share_of, book, weights, self.timed(shares.best_loop, book, weights))
+            self.timed(shares.is_loop, book, ("." * 300, "." * 300))
+
+    def test_tuning(self):
+        for book in HEAVY:
+            for number in range(len(book[1])):
+                self.timed(tuning.equal_counts, book, number)
+                self.timed(tuning.nearest_counts, book, number)
+            for zones in ("a", "b", "ab"):
+                self.timed(tuning.longest_stay, book, zones)
+                self.timed(tuning.least_most, book, zones, 6)
+
+    def test_wishes(self):
+        for book in HEAVY:
+            for calendar in ("." * 60, "a" + "." * 59, "..ab" * 15):
+                if judging.is_allowed(book, calendar):
+                    for wanted in WISHES:
+                        for function in (wishes.days_kept, wishes.longest_kept, wishes.can_keep, wishes.keeping_loop,
+                                         wishes.dead_day):
+                            self.timed(function, book, calendar, wanted)
+                        self.timed(wishes.keeping_share, book, calendar, wanted, (9, 8))
+                        self.timed(wishes.keeps, book, calendar, "ab." * 20, wanted)
+
+    def test_sightings(self):
+        for book in HEAVY:
+            for sighting in SIGHTINGS:
+                for function in (sightings.verdict, sightings.how_many, sightings.first_allowed,
+                                 sightings.first_forbidden, sure.least_wrong, sure.corrected):
+                    self.timed(function, book, sighting)
+                if sightings.first_allowed(book, sighting) is not None:
+                    self.timed(sure.sure_days, book, sighting)
+                self.timed(sure.can_be_one, book, sighting, "?" * 60)
+
+
+if __name__ == "__main__":
+    unittest.main()
