@@ -33,10 +33,11 @@ def greatest_cycle(steps, worth):
     return found
 
 
-def lowest_numbers(steps, worth, share):
+def ceiling_numbers(steps, worth, share):
     """Return a dict from each place to its number in a ceiling for the greatest share.
 
-    The least of the numbers is 0.
+    The least number is 0. No number is great: it is reached from another one
+    by a walk that comes to no place twice.
     """
     numbers = _search(steps, worth, share)[0]
     least = min(numbers.values())

@@ -3,7 +3,7 @@
 from math import gcd
 
 from staybounds.books import AWAY, check_book, day_letters, is_between, is_pair, is_text_of
-from staybounds.cycles import greatest_cycle, lowest_numbers, mean_worth
+from staybounds.cycles import ceiling_numbers, greatest_cycle, mean_worth
 from staybounds.errors import InvalidFraction, InvalidLoop, InvalidWeights
 from staybounds.judging import FIRST_PAST, PAST_DAYS, days_behind, limit_broken
 from staybounds.walks import next_past, steps_of, walks_from
@@ -23,7 +23,7 @@ def is_loop(book, candidate):
     if not all([is_text_of(letters, MOST_LOOP_DAYS, part) for part in candidate]):
         return False
     begin, loop = candidate
-    # Behind five times of one day, all that can be looked back at is the loop.
+    # Behind the loop five times, the past shows nothing else, so the sixth time tells of all later ones.
     return loop != "" and _breaks_nothing(book, begin + loop * (PAST_DAYS + 1))
 
 
@@ -64,7 +64,7 @@ def is_ceiling(book, weights, fraction, candidate):
 def ceiling(book, weights):
     """Return a ceiling for the greatest share, with the pasts of all allowed calendars."""
     share = greatest_share(book, weights)
-    numbers = lowest_numbers(steps_of(book), worth_of_days(book, weights), share)
+    numbers = ceiling_numbers(steps_of(book), worth_of_days(book, weights), share)
     return [(past, numbers[past]) for past in sorted(numbers)]
 
 

@@ -102,6 +102,11 @@ class CeilingTest(unittest.TestCase):
         self.assertIs(is_ceiling(SHORT, (1,), (1, 2), [("aaaaa", 0)]), False)
         self.assertIs(is_ceiling(NONE_IN, (1,), (0, 1), [("aaaaa", 0)]), False)
 
+    def test_a_past_has_five_days(self):
+        for past in ["", ".", "....", "......"]:
+            wrong = sorted([(".....", 0), (past, 0)])
+            self.assertIs(is_ceiling(NONE_IN, (1,), (0, 1), wrong), False)
+
     def test_bounds_of_the_numbers(self):
         for number, wanted in [(0, True), (1, True), (MOST, True), (MOST + 1, False), (-1, False), (True, False),
                                (False, False), (None, False), ("0", False), ([0], False), (10 ** 6000, False)]:

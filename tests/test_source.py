@@ -36,6 +36,13 @@ INTERFACE = {
              "can_be_one(book, one, other)"],
 }
 
+# What the package may use of Python (L8, L25), as far as it needs it.
+BUILTINS = ["len", "range", "enumerate", "zip", "min", "max", "sum", "abs", "sorted", "reversed", "int", "str", "bool",
+            "list", "tuple", "dict", "set", "isinstance", "any", "all", "divmod", "ValueError", "KeyError"]
+METHODS = ["append", "clear", "copy", "count", "endswith", "extend", "find", "get", "index", "insert", "items", "join",
+           "keys", "pop", "popleft", "remove", "replace", "setdefault", "split", "startswith", "strip", "update",
+           "values"]
+
 LIBRARY = {
     "heapq": ["heappush", "heappop", "heapify", "heapreplace", "heappushpop"],
     "math": ["gcd", "lcm", "isqrt", "comb", "perm", "factorial"],
@@ -136,6 +143,33 @@ class NamesTest(unittest.TestCase):
                     self.assertIsInstance(node.value.value, str)
                 else:
                     self.assertIsInstance(node, (ast.ImportFrom, ast.FunctionDef, ast.ClassDef, ast.Assign), name)
+
+    def test_no_name_of_an_import_in_a_function(self):
+        for name, tree in TREES.items():
+            imported = [alias.name for node in imports(tree) for alias in node.names]
+            for bound in bound_names(tree):
+                self.assertNotIn(bound, imported, name)
+
+    def test_builtins_and_methods(self):
+        for name, tree in TREES.items():
+            for node in ast.walk(tree):
+                if isinstance(node, ast.Name) and hasattr(builtins, node.id):
+                    self.assertIn(node.id, BUILTINS, name)
+                if isinstance(node, ast.Attribute):
+                    self.assertIn(node.attr, METHODS, name)
+
+    def test_sums_and_their_kin_take_no_generator_expression(self):
+        # One class of the package will compare, so L7 asks for lists there.
+        for name, tree in TREES.items():
+            found = [node for node in ast.walk(tree) if isinstance(node, (ast.GeneratorExp, ast.Lambda, ast.Global))]
+            self.assertEqual(found, [], name)
+
+    def test_no_list_or_dict_inside_another_one_at_module_level(self):
+        for name, tree in TREES.items():
+            for node in tree.body:
+                if isinstance(node, ast.Assign):
+                    inner = [part for part in ast.walk(node.value) if part is not node.value]
+                    self.assertEqual([part for part in inner if isinstance(part, (ast.List, ast.Dict, ast.Set))], [], name)
 
     def test_no_error_of_pythons_own_is_caught(self):
         allowed = defined(TREES["errors.py"]) + ["KeyError", "ZeroDivisionError"]
