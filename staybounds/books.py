@@ -1,6 +1,6 @@
 """Books of rules and their calendars."""
 
-from staybounds.errors import InvalidBook, InvalidCalendar, InvalidZones
+from staybounds.errors import InvalidBook, InvalidCalendar, InvalidNumber, InvalidZones
 
 AWAY = "."
 MOST_DAYS = 60
@@ -73,6 +73,13 @@ def check_zones(book, zones):
     """Raise InvalidZones if zones are not zones of a limit of the book."""
     if not are_zones(book, zones):
         raise InvalidZones("not zones of the book")
+
+
+def check_number(book, number):
+    """Raise InvalidBook, or InvalidNumber if number is not that of a limit."""
+    check_book(book)
+    if not is_between(number, 0, len(book[1]) - 1):
+        raise InvalidNumber("not the number of a limit")
 
 
 def are_zones(book, candidate):

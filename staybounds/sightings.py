@@ -3,7 +3,7 @@
 from staybounds.books import MOST_DAYS, check_book, check_calendar, day_letters, is_text_of
 from staybounds.errors import InvalidSighting
 from staybounds.judging import FIRST_PAST
-from staybounds.walks import steps_of
+from staybounds.walks import steps_of, ways_through
 
 SOME_ZONE = "p"
 UNKNOWN = "?"
@@ -91,22 +91,6 @@ def choices_of(book, sighting):
     """
     check_sighting(book, sighting)
     return [_letters_of(book, mark) for mark in sighting]
-
-
-def ways_through(steps, choices):
-    """Return the list of dicts that tell in how many ways an allowed calendar goes on.
-
-    The dict behind so many days has for each past the number of the ways in
-    which the other days can be chosen without breaking a limit.
-    """
-    ways = [{past: 1 for past in steps}]
-    for letters in reversed(choices):
-        later = ways[-1]
-        ways.append({
-            past: sum([later[after] for day, after in steps[past] if day in letters])
-            for past in steps
-        })
-    return ways[::-1]
 
 
 def _letters_of(book, mark):

@@ -1,10 +1,10 @@
 """What is sure for somebody who has seen only some days of an allowed calendar."""
 
-from staybounds.books import AWAY
+from staybounds.books import AWAY, day_letters
 from staybounds.errors import NoneAllowed, OtherLength
 from staybounds.judging import FIRST_PAST
-from staybounds.sightings import SOME_ZONE, UNKNOWN, check_sighting, choices_of, ways_through
-from staybounds.walks import steps_of
+from staybounds.sightings import SOME_ZONE, UNKNOWN, check_sighting, choices_of
+from staybounds.walks import cheapest_walk, least_costs, steps_of, ways_through
 
 
 def sure_days(book, sighting):
@@ -26,24 +26,13 @@ def sure_days(book, sighting):
 def least_wrong(book, sighting):
     """Return the least number of days of a sighting that must be wrong."""
     choices = choices_of(book, sighting)
-    return _wrong_behind(steps_of(book), choices)[0][FIRST_PAST]
+    return least_costs(steps_of(book), _costs_of(book, choices))[0][FIRST_PAST]
 
 
 def corrected(book, sighting):
     """Return the first of the allowed calendars with the least number of wrong days."""
     choices = choices_of(book, sighting)
-    steps = steps_of(book)
-    wrong = _wrong_behind(steps, choices)
-    calendar = ""
-    past = FIRST_PAST
-    for at, letters in enumerate(choices):
-        best = [
-            step for step in steps[past]
-            if _is_wrong(step[0], letters) + wrong[at + 1][step[1]] == wrong[at][past]
-        ]
-        day, past = best[0]
-        calendar = calendar + day
-    return calendar
+    return cheapest_walk(steps_of(book), _costs_of(book, choices), FIRST_PAST)
 
 
 def can_be_one(book, one, other):
@@ -68,22 +57,6 @@ def _mark_of(letters):
     return SOME_ZONE
 
 
-def _is_wrong(day, letters):
-    """Return 1 if a day is none of the letters that were seen, and otherwise 0."""
-    return int(day not in letters)
-
-
-def _wrong_behind(steps, choices):
-    """Return the list of dicts that tell how many days must be wrong from a past on.
-
-    The dict behind so many days has for each past the least number for the
-    other days, if they break no limit.
-    """
-    wrong = [{past: 0 for past in steps}]
-    for letters in reversed(choices):
-        later = wrong[-1]
-        wrong.append({
-            past: min([_is_wrong(day, letters) + later[after] for day, after in steps[past]])
-            for past in steps
-        })
-    return wrong[::-1]
+def _costs_of(book, choices):
+    """Return the list of dicts that tell for each day which letters are wrong: they cost 1."""
+    return [{day: int(day not in letters) for day in day_letters(book)} for letters in choices]

@@ -1,7 +1,7 @@
 """How far limits can be changed without a difference, and what a book comes to."""
 
 from staybounds.alike import are_alike
-from staybounds.books import BOUNDS, check_book, check_zones, is_between
+from staybounds.books import BOUNDS, check_book, check_number, check_zones, is_between
 from staybounds.errors import InvalidNumber
 from staybounds.walks import days_left, steps_of
 
@@ -10,7 +10,7 @@ MOST_SPAN = 6
 
 def equal_counts(book, number):
     """Return the ascending list of the counts with which a limit leaves the book alike."""
-    _check_number(book, number)
+    check_number(book, number)
     return [count for count in _counts_of(book[1][number]) if are_alike(book, _with_count(book, number, count))]
 
 
@@ -45,13 +45,6 @@ def longest_stay(book, zones):
     if len(left) < len(inside):
         return None
     return max(left.values())
-
-
-def _check_number(book, number):
-    """Raise InvalidBook, or InvalidNumber if number is not that of a limit."""
-    check_book(book)
-    if not is_between(number, 0, len(book[1]) - 1):
-        raise InvalidNumber("not the number of a limit")
 
 
 def _counts_of(limit):

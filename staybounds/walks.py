@@ -60,3 +60,51 @@ def days_left(steps):
         lasting = [place for place in lasting if place not in left]
         many += 1
     return left
+
+
+def ways_through(steps, choices):
+    """Return the list of dicts that tell in how many ways a walk goes on.
+
+    Choices are a list of the letters that each day can have. The dict behind so
+    many days has for each place the number of the ways to walk the other days.
+    """
+    ways = [{place: 1 for place in steps}]
+    for letters in reversed(choices):
+        later = ways[-1]
+        ways.append({
+            place: sum([later[after] for day, after in steps[place] if day in letters])
+            for place in steps
+        })
+    return ways[::-1]
+
+
+def least_costs(steps, costs):
+    """Return the list of dicts that tell at what least cost a walk goes on.
+
+    Costs are a list of dicts from the letters that each day can have to what
+    they cost. The dict behind so many days has for each place the least cost of
+    the other days. At each place one of the letters must be that of a step.
+    """
+    least = [{place: 0 for place in steps}]
+    for cost in reversed(costs):
+        later = least[-1]
+        least.append({
+            place: min([cost[day] + later[after] for day, after in steps[place] if day in cost])
+            for place in steps
+        })
+    return least[::-1]
+
+
+def cheapest_walk(steps, costs, start):
+    """Return the first of the walks from a place that have the least cost."""
+    least = least_costs(steps, costs)
+    days = ""
+    place = start
+    for at, cost in enumerate(costs):
+        best = [
+            step for step in steps[place]
+            if step[0] in cost and cost[step[0]] + least[at + 1][step[1]] == least[at][place]
+        ]
+        day, place = best[0]
+        days = days + day
+    return days

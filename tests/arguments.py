@@ -1,8 +1,11 @@
 """Each function of the interface with right arguments, and the errors of its section in their order."""
 
-from staybounds import alike, books, errors, judging, pasts, shares, sightings, sure, tuning, wishes
-from tests.forms import (is_fraction, is_number, is_past, is_plain_loop, is_plain_sighting, is_plain_wishes,
-                         is_weights, is_zones)
+from staybounds import (alike, asking, books, breaches, errors, groups, judging, pasts, shares, sightings, sure, tuning,
+                        wishes)
+from tests.forms import (is_fraction, is_number, is_past, is_plain_days, is_plain_loop, is_plain_sighting,
+                         is_plain_wishes, is_weights, is_zones)
+from tests.grouping import is_plain_group
+from tests.listing import walked_pasts
 from tests.plainly import plain_first_broken, plain_is_book, plain_is_calendar
 from tests.samples import SHORT, TWO
 
@@ -21,7 +24,6 @@ CALENDAR = zoned(errors.InvalidCalendar, 1, plain_is_calendar)
 BROKEN = (errors.Broken, lambda args: plain_first_broken(args[0], args[1]) is None)
 SIGHTING = zoned(errors.InvalidSighting, 1, is_plain_sighting)
 OTHER_ZONES = (errors.OtherZones, lambda args: args[0][0] == args[1][0])
-LIMIT_NUMBER = (errors.InvalidNumber, lambda args: is_number(args[1], 0, len(args[0][1]) - 1))
 WEIGHTS = zoned(errors.InvalidWeights, 1, is_weights)
 WISHES = zoned(errors.InvalidWishes, 2, is_plain_wishes)
 
@@ -29,6 +31,24 @@ WISHES = zoned(errors.InvalidWishes, 2, is_plain_wishes)
 def zones_at(at):
     return zoned(errors.InvalidZones, at, is_zones)
 
+
+def limit_number_at(at):
+    return (errors.InvalidNumber, lambda args: is_number(args[at], 0, len(args[0][1]) - 1))
+
+
+def is_small(group):
+    """Whether at most 2000 tuples of pasts result."""
+    tuples = 1
+    for book, calendar, zones in group:
+        tuples *= len(walked_pasts(book))
+    return tuples <= 2000
+
+
+TOO_MANY = (errors.TooMany, lambda args: len([mark for mark in args[1] if mark in "p?"]) <= 8)
+GROUP = (errors.InvalidGroup, lambda args: is_plain_group(args[0]))
+TOO_LARGE = (errors.TooLarge, lambda args: is_small(args[0]))
+PLANNING = [GROUP, (errors.InvalidNumber, lambda args: is_number(args[1], 0, 20)), TOO_LARGE]
+PAIR = ((SHORT, "a", "a"), (("a", (("row", "a", 1),)), "", "a"))
 
 KEPT = (SHORT, "a..", (("a", 3),))
 KEEPING = [BOOK, CALENDAR, BROKEN, WISHES]
@@ -58,8 +78,8 @@ SPECS = [
     (alike.are_alike, (SHORT, SHORT), [BOOK, book_at(1), OTHER_ZONES]),
     (alike.is_stricter, (SHORT, ("a", ())), [BOOK, book_at(1), OTHER_ZONES]),
     (alike.idle_limits, (SHORT,), [BOOK]),
-    (tuning.equal_counts, (SHORT, 0), [BOOK, LIMIT_NUMBER]),
-    (tuning.nearest_counts, (SHORT, 0), [BOOK, LIMIT_NUMBER]),
+    (tuning.equal_counts, (SHORT, 0), [BOOK, limit_number_at(1)]),
+    (tuning.nearest_counts, (SHORT, 0), [BOOK, limit_number_at(1)]),
     (tuning.least_most, (SHORT, "a", 6),
      [BOOK, zones_at(1), (errors.InvalidNumber, lambda args: is_number(args[2], 1, 6))]),
     (tuning.longest_stay, (SHORT, "a"), [BOOK, zones_at(1)]),
@@ -86,6 +106,19 @@ SPECS = [
     (sure.can_be_one, (SHORT, "a?p.", "..a?"),
      [BOOK, SIGHTING, zoned(errors.InvalidSighting, 2, is_plain_sighting),
       (errors.OtherLength, lambda args: len(args[1]) == len(args[2]))]),
+    (asking.settles, (SHORT, "a?p.", (0, 1)),
+     [BOOK, SIGHTING, (errors.InvalidDays, lambda args: is_plain_days(args[1], args[2])), TOO_MANY]),
+    (asking.fewest_asked, (SHORT, "a?p."), [BOOK, SIGHTING, TOO_MANY]),
+    (asking.best_day, (SHORT, "a?p."), [BOOK, SIGHTING]),
+    (breaches.breaches, (SHORT, "aa.a"), [BOOK, CALENDAR]),
+    (breaches.broken_days, (SHORT, "aa.a"), [BOOK, CALENDAR]),
+    (breaches.breaches_of, (SHORT, "aa.a", 0), [BOOK, CALENDAR, limit_number_at(2)]),
+    (breaches.fewest_away, (SHORT, "aa.a"), [BOOK, CALENDAR]),
+    (breaches.thinned, (SHORT, "aa.a"), [BOOK, CALENDAR]),
+    (groups.is_group, (PAIR,), []),
+    (groups.most_common, (PAIR, 2), PLANNING),
+    (groups.common_plan, (PAIR, 2), PLANNING),
+    (groups.first_common, (PAIR,), [GROUP, TOO_LARGE]),
 ]
 
 # Arguments for which the functions that return lists do so.
@@ -101,6 +134,12 @@ LISTS = [
     (alike.idle_limits, (SHORT,)),
     (alike.idle_limits, (("a", (("row", "a", 2), ("row", "a", 2))),)),
     (tuning.equal_counts, (TWO, 1)),
+    (breaches.breaches, (SHORT, "aa.aaa")),
+    (breaches.breaches, (SHORT, "")),
+    (breaches.broken_days, (SHORT, "aa.aaa")),
+    (breaches.broken_days, (SHORT, "a")),
+    (breaches.breaches_of, (TWO, "aaaa.a", 1)),
+    (breaches.breaches_of, (TWO, "a", 0)),
 ]
 
 

@@ -1,4 +1,4 @@
-"""Which arguments are right (0.3 to 0.8, 3.1, 4.1, 4.3, 6.2, 7.1, 8.1), read plainly once more."""
+"""Which arguments are right (0.3 to 0.8, 3.1, 4.1, 4.3, 6.2, 7.1, 8.1, 10.1), read plainly once more."""
 
 import re
 from fractions import Fraction
@@ -56,6 +56,12 @@ def is_plain_wishes(zones, candidate):
 
 def is_plain_sighting(zones, candidate):
     return is_string_of(".?p" + zones, 60, candidate)
+
+
+def is_plain_days(sighting, candidate):
+    if type(candidate) is not tuple or not all(is_number(day, 0, len(sighting) - 1) for day in candidate):
+        return False
+    return list(candidate) == sorted(set(candidate))
 
 
 def is_plain_ceiling(book, fraction, weights, candidate, steps):

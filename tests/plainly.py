@@ -96,3 +96,26 @@ def first_broken_by_beginnings(book, calendar):
             if not obeys(limit, calendar[:many]):
                 return (many - 1, number)
     return None
+
+
+def plain_breaches(book, calendar):
+    """All tuples (day, number, first) of 11.1, found by looking at each day for each limit."""
+    found = set()
+    for number, limit in enumerate(book[1]):
+        kind, zones, count = limit[:3]
+        inside = {day for day, letter in enumerate(calendar) if letter in list(zones)}
+        begins = {day for day in inside if day - 1 not in inside}
+        for day in range(len(calendar)):
+            if kind in ("most", "starts"):
+                window = set(range(day - limit[3] + 1, day + 1))
+                if len(window & (inside if kind == "most" else begins)) > count:
+                    found.add((day, number, min(window)))
+            elif kind == "row":
+                for first in begins:
+                    if first + count <= day and set(range(first, day + 1)) <= inside:
+                        found.add((day, number, first))
+            elif day in begins:
+                for last in inside:
+                    if last < day <= last + count and not set(range(last + 1, day)) & inside:
+                        found.add((day, number, last))
+    return sorted(found)

@@ -12,7 +12,8 @@ from tests.plainly import with_kinds
 from tests.samples import ANYTHING, SHORT, TWO
 
 # Right and wrong values for any argument, to have several wrong ones at once.
-FEW = [SHORT, TWO, ("a", ["row"]), "a.a", "aaa", "bb", "p?", (1,), (1, 2), [1], (("a", 3),), True, 0, 7, None]
+FEW = [SHORT, TWO, ("a", ["row"]), "a.a", "aaa", "bb", "p?", "?" * 9, (1,), (1, 2), [1], (("a", 3),), True, 0, 7, None,
+       ((SHORT, "", "a"),), (0, 1, 1)]
 
 
 def calls():

@@ -34,6 +34,10 @@ INTERFACE = {
                   "how_many(book, sighting)", "first_allowed(book, sighting)", "first_forbidden(book, sighting)"],
     "sure": ["sure_days(book, sighting)", "least_wrong(book, sighting)", "corrected(book, sighting)",
              "can_be_one(book, one, other)"],
+    "asking": ["settles(book, sighting, days)", "fewest_asked(book, sighting)", "best_day(book, sighting)"],
+    "breaches": ["breaches(book, calendar)", "broken_days(book, calendar)", "breaches_of(book, calendar, number)",
+                 "fewest_away(book, calendar)", "thinned(book, calendar)"],
+    "groups": ["is_group(candidate)", "most_common(group, days)", "common_plan(group, days)", "first_common(group)"],
 }
 
 # What the package may use of Python (L8, L25), as far as it needs it.

@@ -3,7 +3,8 @@
 import time
 import unittest
 
-from staybounds import alike, judging, pasts, shares, sightings, sure, tuning, wishes
+from staybounds import alike, asking, breaches, groups, judging, pasts, shares, sightings, sure, tuning, wishes
+from staybounds.errors import TooLarge
 
 SECONDS = 5
 
@@ -14,6 +15,10 @@ HEAVY = [
     ("ab", (("row", "a", 5), ("row", "b", 4), ("gap", "a", 5), ("gap", "b", 5))),
     ("ab", ()),
 ]
+LARGEST = (
+    (("a", (("gap", "a", 2), ("starts", "a", 1, 5), ("most", "a", 6, 6), ("row", "a", 5))), "", "a"),
+    (("ab", (("most", "b", 1, 2), ("most", "ab", 2, 3), ("most", "a", 6, 6), ("starts", "ab", 5, 5))), "", "ab"),
+)
 WISHES = [(("a", 5), ("b", 5), ("ab", 5)), (("a", 4), ("b", 3), ("ab", 2)), (("ab", 5),)]
 SIGHTINGS = ["?" * 60, "p" * 60, "?p" * 30, "ab" * 30, "a????" * 12]
 WEIGHTS = [(1, 1), (9, 8), (7, 9), (0, 1)]
@@ -73,6 +78,38 @@ class TimeTest(unittest.TestCase):
                 if sightings.first_allowed(book, sighting) is not None:
                     self.timed(sure.sure_days, book, sighting)
                 self.timed(sure.can_be_one, book, sighting, "?" * 60)
+
+    def test_asking(self):
+        for book in HEAVY:
+            for sighting in ("?" * 8 + "." * 52, "." * 26 + "?p" * 4 + "." * 26, "..b...?" * 8, "p" * 8 + "ab.b" * 13):
+                self.timed(asking.fewest_asked, book, sighting)
+                self.timed(asking.settles, book, sighting, tuple(range(60)[:len(sighting)]))
+            for sighting in SIGHTINGS:
+                self.timed(asking.best_day, book, sighting)
+
+    def test_breaches(self):
+        for book in HEAVY:
+            for calendar in ("ab" * 30, "a" * 60, "a.b." * 15, "." * 60, "aaabbb." * 8):
+                for function in (breaches.breaches, breaches.broken_days, breaches.fewest_away, breaches.thinned):
+                    self.timed(function, book, calendar)
+                for number in range(len(book[1])):
+                    self.timed(breaches.breaches_of, book, calendar, number)
+
+    def test_groups(self):
+        few = ("ab", (("most", "ab", 1, 5), ("most", "a", 6, 6), ("most", "b", 6, 6), ("starts", "ab", 5, 5)))
+        free = ("a", (("most", "a", 6, 6), ("row", "a", 5), ("gap", "a", 1), ("starts", "a", 5, 5)))
+        for one in HEAVY + [few, free, LARGEST[0][0]]:
+            for other in HEAVY + [few, free, LARGEST[1][0]]:
+                group = ((one, "." * 60, one[0]), (other, "a", "a"))
+                calls = [(groups.most_common, group, 20), (groups.common_plan, group, 20), (groups.first_common, group)]
+                for call in calls + [(groups.most_common, group[:1], 20), (groups.first_common, group[1:])]:
+                    try:
+                        self.timed(*call)
+                    except TooLarge:
+                        self.assertEqual(len(call[1]), 2)
+        # Just 2000 tuples of pasts.
+        self.timed(groups.common_plan, LARGEST, 20)
+        self.timed(groups.first_common, LARGEST)
 
 
 if __name__ == "__main__":
