@@ -1,11 +1,11 @@
 """Each function of the interface with right arguments, and the errors of its section in their order."""
 
-from staybounds import (alike, asking, books, breaches, errors, groups, judging, pasts, shares, sightings, sure, tuning,
-                        wishes)
-from tests.forms import (is_fraction, is_number, is_past, is_plain_days, is_plain_loop, is_plain_sighting,
-                         is_plain_wishes, is_weights, is_zones)
+from staybounds import (alike, asking, books, breaches, errors, formats, groups, judging, naive, numbering, pasts, shares,
+                        sightings, sure, tuning, wishes)
+from tests.forms import (is_book_text, is_calendar_text, is_fraction, is_number, is_past, is_plain_days, is_plain_loop,
+                         is_plain_sighting, is_plain_wishes, is_weights, is_zones)
 from tests.grouping import is_plain_group
-from tests.listing import walked_pasts
+from tests.listing import walked_counts, walked_pasts
 from tests.plainly import plain_first_broken, plain_is_book, plain_is_calendar
 from tests.samples import SHORT, TWO
 
@@ -47,7 +47,17 @@ def is_small(group):
 TOO_MANY = (errors.TooMany, lambda args: len([mark for mark in args[1] if mark in "p?"]) <= 8)
 GROUP = (errors.InvalidGroup, lambda args: is_plain_group(args[0]))
 TOO_LARGE = (errors.TooLarge, lambda args: is_small(args[0]))
-PLANNING = [GROUP, (errors.InvalidNumber, lambda args: is_number(args[1], 0, 20)), TOO_LARGE]
+
+
+def days_at(at, most):
+    return (errors.InvalidNumber, lambda args: is_number(args[at], 0, most))
+
+
+def has_number(book, days, number):
+    return is_number(number, 0, sum(walked_counts(book, days).values()) - 1)
+
+
+PLANNING = [GROUP, days_at(1, 20), TOO_LARGE]
 PAIR = ((SHORT, "a", "a"), (("a", (("row", "a", 1),)), "", "a"))
 
 KEPT = (SHORT, "a..", (("a", 3),))
@@ -119,6 +129,19 @@ SPECS = [
     (groups.most_common, (PAIR, 2), PLANNING),
     (groups.common_plan, (PAIR, 2), PLANNING),
     (groups.first_common, (PAIR,), [GROUP, TOO_LARGE]),
+    (numbering.count_allowed, (SHORT, 4), [BOOK, days_at(1, 60)]),
+    (numbering.count_with, (SHORT, 4, 2), [BOOK, days_at(1, 60), days_at(2, 60)]),
+    (numbering.number_of, (SHORT, "a.a"), [BOOK, CALENDAR, BROKEN]),
+    (numbering.calendar_at, (SHORT, 4, 3),
+     [BOOK, days_at(1, 60), (errors.InvalidNumber, lambda args: has_number(*args))]),
+    (formats.format_book, (SHORT,), [BOOK]),
+    (formats.parse_book, ("zones a\nmost a at 2 in 4\n",), [(errors.ParseError, lambda args: is_book_text(args[0]))]),
+    (formats.format_calendar, (SHORT, "a.......a"), [BOOK, CALENDAR]),
+    (formats.parse_calendar, (SHORT, "a......\na\n"), [BOOK, zoned(errors.ParseError, 1, is_calendar_text)]),
+    (naive.all_calendars, (SHORT, 3), [BOOK, days_at(1, 6)]),
+    (naive.naive_allowed, (SHORT, "a.a"), [BOOK, CALENDAR]),
+    (naive.naive_count, (SHORT, 3), [BOOK, days_at(1, 6)]),
+    (naive.naive_parting, (SHORT, ("a", (("row", "a", 2),)), 3), [BOOK, book_at(1), OTHER_ZONES, days_at(2, 6)]),
 ]
 
 # Arguments for which the functions that return lists do so.
@@ -140,6 +163,8 @@ LISTS = [
     (breaches.broken_days, (SHORT, "a")),
     (breaches.breaches_of, (TWO, "aaaa.a", 1)),
     (breaches.breaches_of, (TWO, "a", 0)),
+    (naive.all_calendars, (TWO, 2)),
+    (naive.all_calendars, (TWO, 0)),
 ]
 
 

@@ -1,4 +1,4 @@
-"""Which arguments are right (0.3 to 0.8, 3.1, 4.1, 4.3, 6.2, 7.1, 8.1, 10.1), read plainly once more."""
+"""Which arguments are right (0.3 to 0.8, 3.1, 4.1, 4.3, 6.2, 7.1, 8.1, 10.1, 14.1, 14.2), read plainly once more."""
 
 import re
 from fractions import Fraction
@@ -62,6 +62,26 @@ def is_plain_days(sighting, candidate):
     if type(candidate) is not tuple or not all(is_number(day, 0, len(sighting) - 1) for day in candidate):
         return False
     return list(candidate) == sorted(set(candidate))
+
+
+def is_book_text(candidate):
+    """Whether candidate is the format of a book."""
+    if type(candidate) is not str:
+        return False
+    found = re.fullmatch(r"zones (a|ab)\n((?:[^\n]*\n){0,4})", candidate)
+    if found is None:
+        return False
+    zones = {"a": "a", "ab": "(a|b|ab)"}[found[1]]
+    forms = ["most %s at [0-6] in [1-6]", "row %s at [0-5]", "gap %s at [1-5]", "starts %s at [0-5] in [1-5]"]
+    lines = found[2].split("\n")[:-1]
+    return all(any(re.fullmatch(form % zones, line) for form in forms) for line in lines)
+
+
+def is_calendar_text(zones, candidate):
+    """Whether candidate is the format of a calendar."""
+    if type(candidate) is not str or len(candidate.replace("\n", "")) > 60:
+        return False
+    return re.fullmatch(r"(?:[.%s]{7}\n)*(?:[.%s]{1,6}\n)?" % (zones, zones), candidate) is not None
 
 
 def is_plain_ceiling(book, fraction, weights, candidate, steps):

@@ -1,5 +1,6 @@
 """Answers found by listing allowed calendars, or by walking from past to past, one by one."""
 
+from collections import Counter
 from fractions import Fraction
 from itertools import product
 
@@ -44,6 +45,22 @@ def walked_pasts(book):
             steps[past] = [(day, past_of(book, calendar + day)) for day in following]
             waiting += [calendar + day for day in following]
     return steps
+
+
+def walked_counts(book, days):
+    """The numbers of the allowed calendars by the number of days that are not away, walked day by day."""
+    steps = walked_pasts(book)
+    ways = Counter({(".....", 0): 1})
+    for _ in range(days):
+        later = Counter()
+        for (past, many), number in ways.items():
+            for day, after in steps[past]:
+                later[after, many + (day != ".")] += number
+        ways = later
+    counts = Counter()
+    for (past, many), number in ways.items():
+        counts[many] += number
+    return counts
 
 
 def worth_of(book, weights):

@@ -69,6 +69,11 @@ class AnyArgumentsTest(unittest.TestCase):
 
 
 class ListsTest(unittest.TestCase):
+    def test_each_function_that_returns_lists_is_listed(self):
+        listed = [function for function, arguments in LISTS]
+        for function, right, checks in SPECS:
+            self.assertEqual(type(function(*right)) is list, function in listed, function.__name__)
+
     def test_returned_lists_are_new(self):
         for function, arguments in LISTS:
             first = function(*arguments)

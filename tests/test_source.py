@@ -38,14 +38,25 @@ INTERFACE = {
     "breaches": ["breaches(book, calendar)", "broken_days(book, calendar)", "breaches_of(book, calendar, number)",
                  "fewest_away(book, calendar)", "thinned(book, calendar)"],
     "groups": ["is_group(candidate)", "most_common(group, days)", "common_plan(group, days)", "first_common(group)"],
+    "numbering": ["count_allowed(book, days)", "count_with(book, days, many)", "number_of(book, calendar)",
+                  "calendar_at(book, days, number)"],
+    "formats": ["format_book(book)", "parse_book(text)", "format_calendar(book, calendar)",
+                "parse_calendar(book, text)"],
+    "naive": ["all_calendars(book, days)", "naive_allowed(book, calendar)", "naive_count(book, days)",
+              "naive_parting(one, other, days)"],
 }
+
+DESK = ["__init__(self, book)", "add(self, name)", "remove(self, name)", "day(self, entries)", "names(self)",
+        "calendar(self, name)", "may(self, name)", "set_limits(self, limits)", "book(self)", "broken(self)",
+        "save(self, name)", "editions(self)", "load(self, name)", "undo(self)", "redo(self)", "copy(self)",
+        "__eq__(self, other)", "__len__(self)"]
 
 # What the package may use of Python (L8, L25), as far as it needs it.
 BUILTINS = ["len", "range", "enumerate", "zip", "min", "max", "sum", "abs", "sorted", "reversed", "int", "str", "bool",
             "list", "tuple", "dict", "set", "isinstance", "any", "all", "divmod", "ValueError", "KeyError"]
 METHODS = ["append", "clear", "copy", "count", "endswith", "extend", "find", "get", "index", "insert", "items", "join",
-           "keys", "pop", "popleft", "remove", "replace", "setdefault", "split", "startswith", "strip", "update",
-           "values"]
+           "keys", "pop", "popleft", "remove", "replace", "rpartition", "setdefault", "split", "startswith", "strip",
+           "update", "values"]
 
 LIBRARY = {
     "heapq": ["heappush", "heappop", "heapify", "heapreplace", "heappushpop"],
@@ -84,6 +95,18 @@ def imports(tree):
 def own_imports(tree):
     """The files of the package that a file imports from."""
     return [node.module.split(".")[1] + ".py" for node in imports(tree) if node.module.startswith("staybounds.")]
+
+
+def own_methods(tree):
+    """The methods of the classes of a file."""
+    classes = [node for node in tree.body if isinstance(node, ast.ClassDef)]
+    return [node for found in classes for node in found.body if isinstance(node, ast.FunctionDef)]
+
+
+def own_attributes(tree):
+    """The attributes that the code of a file assigns."""
+    nodes = [node for node in ast.walk(tree) if isinstance(node, ast.Attribute)]
+    return {node.attr for node in nodes if isinstance(node.ctx, ast.Store)}
 
 
 def bound_names(tree):
@@ -132,7 +155,8 @@ class NamesTest(unittest.TestCase):
     def test_no_name_of_a_builtin(self):
         for name, tree in TREES.items():
             for bound in bound_names(tree):
-                self.assertFalse(hasattr(builtins, bound), (name, bound))
+                if not bound.startswith("__"):
+                    self.assertFalse(hasattr(builtins, bound), (name, bound))
 
     def test_each_name_is_bound_once_at_module_level(self):
         for name, tree in TREES.items():
@@ -156,14 +180,39 @@ class NamesTest(unittest.TestCase):
 
     def test_builtins_and_methods(self):
         for name, tree in TREES.items():
+            own = [node.name for node in own_methods(tree)] + sorted(own_attributes(tree))
             for node in ast.walk(tree):
                 if isinstance(node, ast.Name) and hasattr(builtins, node.id):
                     self.assertIn(node.id, BUILTINS, name)
                 if isinstance(node, ast.Attribute):
-                    self.assertIn(node.attr, METHODS, name)
+                    self.assertIn(node.attr, METHODS + own, name)
+
+    def test_methods_and_attributes(self):
+        for name, tree in TREES.items():
+            methods = [node.name for node in own_methods(tree)]
+            self.assertEqual(len(methods), len(set(methods)), name)
+            self.assertEqual(set(methods) & own_attributes(tree), set(), name)
+            for node in own_methods(tree):
+                self.assertEqual(node.decorator_list, [])
+                if node.name.startswith("__"):
+                    self.assertIn(node.name, ["__init__", "__eq__", "__len__"])
+
+    def test_no_set_is_changed(self):
+        # The desk has a method add, so L24 lets no set have one.
+        for name, tree in TREES.items():
+            for node in ast.walk(tree):
+                if isinstance(node, ast.Attribute):
+                    self.assertNotIn(node.attr, ["add", "discard", "sort"], name)
+
+    def test_each_raise_creates_an_error_of_the_package(self):
+        allowed = defined(TREES["errors.py"])
+        for name, tree in TREES.items():
+            for node in ast.walk(tree):
+                if isinstance(node, ast.Raise):
+                    self.assertIn(node.exc.func.id, allowed, name)
 
     def test_sums_and_their_kin_take_no_generator_expression(self):
-        # One class of the package will compare, so L7 asks for lists there.
+        # The desk compares, so L7 asks for lists there.
         for name, tree in TREES.items():
             found = [node for node in ast.walk(tree) if isinstance(node, (ast.GeneratorExp, ast.Lambda, ast.Global))]
             self.assertEqual(found, [], name)
@@ -226,3 +275,16 @@ class InterfaceTest(unittest.TestCase):
                 wanted = arguments.split(", ")
                 self.assertEqual([arg.arg for arg in nodes[function].args.args], wanted)
                 self.assertEqual(list(inspect.signature(getattr(found, function)).parameters), wanted)
+
+    def test_the_desk_has_its_methods_itself(self):
+        found = {node.name: [arg.arg for arg in node.args.args] for node in own_methods(TREES["desk.py"])}
+        for row in DESK:
+            method, arguments = re.fullmatch(r"(\w+)\((.*)\)", row).groups()
+            self.assertEqual(found[method], arguments.split(", "), method)
+        public = [method for method in found if not method.startswith("_")]
+        self.assertEqual(len(public), len([row for row in DESK if not row.startswith("_")]))
+        self.assertIn("Desk", defined(TREES["desk.py"]))
+
+    def test_each_file_is_one_of_the_interface_or_helps(self):
+        files = ["__init__", "errors", "desk", "walks", "cycles"] + list(INTERFACE)
+        self.assertEqual(NAMES, sorted(name + ".py" for name in files))

@@ -3,8 +3,10 @@
 import time
 import unittest
 
-from staybounds import alike, asking, breaches, groups, judging, pasts, shares, sightings, sure, tuning, wishes
-from staybounds.errors import TooLarge
+from staybounds import (alike, asking, breaches, formats, groups, judging, naive, numbering, pasts, shares, sightings, sure,
+                        tuning, wishes)
+from staybounds.desk import Desk
+from staybounds.errors import ParseError, TooLarge
 
 SECONDS = 5
 
@@ -110,6 +112,51 @@ class TimeTest(unittest.TestCase):
         # Just 2000 tuples of pasts.
         self.timed(groups.common_plan, LARGEST, 20)
         self.timed(groups.first_common, LARGEST)
+
+    def test_numbering(self):
+        for book in HEAVY:
+            total = self.timed(numbering.count_allowed, book, 60)
+            for many in (0, 20, 40, 60):
+                self.timed(numbering.count_with, book, 60, many)
+            for number in (0, total // 3, total - 1):
+                calendar = self.timed(numbering.calendar_at, book, 60, number)
+                self.assertEqual(self.timed(numbering.number_of, book, calendar), number)
+
+    def test_formats(self):
+        for book in HEAVY:
+            self.assertEqual(self.timed(formats.parse_book, self.timed(formats.format_book, book)), book)
+            text = self.timed(formats.format_calendar, book, "ab." * 20)
+            self.assertEqual(self.timed(formats.parse_calendar, book, text), "ab." * 20)
+            for wrong in ("zones ab\n" * 100000, "a" * 1000000, "\n" * 1000000, " " * 1000000):
+                with self.assertRaises(ParseError):
+                    self.timed(formats.parse_book, wrong)
+                with self.assertRaises(ParseError):
+                    self.timed(formats.parse_calendar, book, wrong)
+
+    def test_naive(self):
+        for book in HEAVY:
+            self.timed(naive.all_calendars, book, 6)
+            self.timed(naive.naive_count, book, 6)
+            for calendar in ("ab" * 30, "a.b." * 15, "." * 60):
+                self.timed(naive.naive_allowed, book, calendar)
+            for other in HEAVY:
+                self.timed(naive.naive_parting, book, other, 6)
+
+    def test_desk(self):
+        for book in HEAVY:
+            desk = Desk(book)
+            for name in ("a", "b", "c", "d", "e"):
+                self.timed(desk.add, name)
+            for day in range(60):
+                self.timed(desk.day, (("a", "a"), ("c", "b"), ("e", "ab"[day % 2])))
+            for call in (desk.broken, desk.copy, desk.names, desk.editions, desk.undo, desk.redo):
+                self.timed(call)
+            self.timed(desk.save, "all")
+            for _ in range(500):
+                self.timed(desk.load, "all")
+            self.timed(desk.set_limits, HEAVY[0][1])
+            self.timed(desk.may, "a")
+            self.timed(desk.remove, "a")
 
 
 if __name__ == "__main__":
