@@ -20,7 +20,7 @@ def breaches_of(book, calendar, number):
     """Return the ascending list of the breaches of the limit with a number."""
     check_calendar(book, calendar)
     check_number(book, number)
-    return sorted(_breaches_of(book, calendar, number))
+    return _breaches_of(book, calendar, number)
 
 
 def fewest_away(book, calendar):
@@ -36,7 +36,7 @@ def thinned(book, calendar):
 
 
 def _breaches_of(book, calendar, number):
-    """Return the list of the breaches of the limit with a number."""
+    """Return the ascending list of the breaches of the limit with a number."""
     limit = book[1][number]
     kind, zones, count = limit[:3]
     found = stays(book, calendar, zones)

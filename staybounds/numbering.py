@@ -5,9 +5,6 @@ from staybounds.errors import InvalidNumber
 from staybounds.judging import FIRST_PAST, check_allowed
 from staybounds.walks import steps_of, ways_through
 
-# Binary digits with room for the number of all calendars of 60 days, 3 ** 60.
-DIGITS = 96
-
 
 def count_allowed(book, days):
     """Return the number of the allowed calendars with so many days."""
@@ -19,13 +16,14 @@ def count_with(book, days, many):
     """Return the number of the allowed calendars with so many days, just so many of them not away."""
     _check_days(book, days)
     _check_number_of_days(many)
+    if many > days:
+        return 0
     steps = steps_of(book)
-    # One integer holds a count for each number of days that are not away, side
-    # by side: such a day shifts the counts of what comes behind it by one place.
-    counts = {past: 1 for past in steps}
+    # For each past the counts of the ways to go on, by how many days are not away.
+    counts = {past: [1] for past in steps}
     for _ in range(days):
-        counts = {past: sum([counts[after] << _shift_of(day) for day, after in steps[past]]) for past in steps}
-    return (counts[FIRST_PAST] >> (DIGITS * many)) % (1 << DIGITS)
+        counts = {past: _added([_counts_with(day, counts[after]) for day, after in steps[past]]) for past in steps}
+    return counts[FIRST_PAST][many]
 
 
 def number_of(book, calendar):
@@ -74,9 +72,16 @@ def _ways_behind(book, steps, days):
     return ways_through(steps, [day_letters(book)] * days)
 
 
-def _shift_of(day):
-    """Return by how many binary digits a day shifts the counts behind it."""
-    return DIGITS * int(day != AWAY)
+def _counts_with(day, counts):
+    """Return the counts by how many days are not away, with one more day before them."""
+    if day == AWAY:
+        return counts + [0]
+    return [0] + counts
+
+
+def _added(rows):
+    """Return the list of the sums of equally long rows of numbers."""
+    return [sum(column) for column in zip(*rows)]
 
 
 def _numbered(going, later):

@@ -390,6 +390,23 @@ class EqualTest(Shown):
         self.assertTrue(desk == other)
         self.assertTrue(desk == desk.copy())
 
+    def test_the_last_call_does_not_matter(self):
+        desks = []
+        for last in range(5):
+            desk = desk_with(SHORT, "ann", "bob")
+            calls = [lambda: days_of(desk, "a."), lambda: desk.remove("bob"), lambda: desk.set_limits(())]
+            for call in calls[last % 3:] + calls[:last % 3]:
+                call()
+            if last > 2:
+                desk.save("one")
+                desk.load("one")
+            if last == 4:
+                desk.undo()
+            desks.append(desk)
+        for one in desks:
+            for other in desks:
+                self.assertTrue(one == other)
+
     def test_what_matters(self):
         desk = desk_with(SHORT, "ann")
         days_of(desk, "a")

@@ -70,8 +70,8 @@ class CountTest(unittest.TestCase):
             self.assertEqual(count_allowed(book, 60), sum(wanted.values()), book)
 
     def test_the_sum_over_all_many(self):
-        for book in long_books():
-            for days in (17, 60):
+        for at, book in enumerate(long_books()):
+            for days in ((60,), (17, 41))[at % 2]:
                 counts = [count_with(book, days, many) for many in range(61)]
                 self.assertEqual(sum(counts), count_allowed(book, days), (book, days))
                 self.assertTrue(all(count >= 0 for count in counts))
